@@ -1,0 +1,1 @@
+"""Benches: several judges look at one case and weigh its rules differently."""

@@ -1,0 +1,49 @@
+"""What the tests share: texts written as rows, and calls that watch what is handed in."""
+
+from judgebench.benches import judge, make
+
+
+class Watched(list):
+    """A list that fails the test at once if somebody changes it, if only for a while."""
+
+    def refuse(self, *args, **kwargs):
+        raise AssertionError("what was handed in is changed")
+
+    append = clear = extend = insert = pop = remove = reverse = sort = refuse
+    __setitem__ = __delitem__ = __iadd__ = __imul__ = refuse
+
+
+def lines(*rows):
+    """The bytes of a text that has these lines."""
+    return [ord(sign) for row in rows for sign in row + "\n"]
+
+
+def rules(*names):
+    """Lines of rules that are all different, without bodies."""
+    return ["rule %s: => p-%s" % (name, name) for name in names]
+
+
+def call(function, *values):
+    """Calls twice, with watched lists; the answers must be one answer, of plain whole numbers in a plain list."""
+    before = [list(value) if isinstance(value, list) else value for value in values]
+    watched = [Watched(value) if isinstance(value, list) else value for value in values]
+    answer = function(*watched)
+    kept = list(answer)
+    again = function(*watched)
+    if again is answer or kept != answer or again != answer:
+        raise AssertionError("a second call answers something else: %r, %r" % (kept, again))
+    after = [list(value) if isinstance(value, list) else value for value in watched]
+    if after != before:
+        raise AssertionError("what was handed in is changed")
+    if type(answer) is not list or any(type(number) is not int for number in answer):
+        raise AssertionError("not a list of whole numbers: %r" % (answer,))
+    return answer
+
+
+def made(judges, t, *weights):
+    """make's answer; each weight is a triple."""
+    return call(make, judges, t, [number for weight in weights for number in weight])
+
+
+def judged(t, *b):
+    return call(judge, t, list(b))

@@ -1,0 +1,59 @@
+"""The interface: names, arguments, nothing printed, nothing kept, nothing imported from outside."""
+
+import inspect
+import pathlib
+import subprocess
+import sys
+import unittest
+
+from helper import lines, made, judged
+from judgebench import benches
+
+ROOT = pathlib.Path(__file__).resolve().parent.parent
+CALLS = {"make": ["judges", "t", "weights"], "judge": ["t", "b"]}
+
+
+class Interface(unittest.TestCase):
+    def test_names_and_arguments(self):
+        for name, arguments in CALLS.items():
+            parameters = inspect.signature(getattr(benches, name)).parameters
+            self.assertEqual(list(parameters), arguments)
+            self.assertTrue(all(one.default is one.empty for one in parameters.values()))
+
+    def test_by_keyword(self):
+        t = lines("rule a: => p")
+        self.assertEqual(benches.make(judges=1, t=t, weights=[]), [0, 0])
+        self.assertEqual(benches.judge(t=t, b=[0]), [0])
+
+    def test_nothing_is_printed_or_imported(self):
+        program = (
+            "import sys\n"
+            "before = set(sys.modules)\n"
+            "from judgebench.benches import make, judge\n"
+            "t = list(b'rule a: => p' + bytes([10]))\n"
+            "make(1, t, [0, 0, 0]), judge(t, [0]), make(1, [1], []), judge([1], [])\n"
+            "more = [name for name in set(sys.modules) - before if name.split('.')[0] != 'judgebench']\n"
+            "sys.exit(1 if more else 0)\n"
+        )
+        run = subprocess.run([sys.executable, "-c", program], cwd=ROOT, capture_output=True)
+        self.assertEqual((run.returncode, run.stdout, run.stderr), (0, b"", b""))
+
+    def test_nothing_is_kept(self):
+        good, wrong = lines("rule a: => p", "rule b: => q", "weigh a > b"), lines("rule a: => p", "weigh a > a")
+        first = [made(2, good, (0, 1, 0)), judged(good, 0, 1), made(1, wrong), judged(wrong, 0)]
+        self.assertEqual(first, [[0, 0, 1, 0, 0], [0], [-6], [-6]])
+        # In another order, and with answers that their owner changed.
+        benches.make(2, good, [0, 1, 0]).append(7)
+        benches.judge(good, [0, 1]).clear()
+        again = [judged(wrong, 0), made(1, wrong), judged(good, 0, 1), made(2, good, (0, 1, 0))]
+        self.assertEqual(again, first[::-1])
+
+    def test_the_longest_lists(self):
+        t = lines("rule a: => p", "rule b: => q")
+        self.assertEqual(made(1, t, *[(0, 0, 1)] * 1000), [0, 2, 0])
+        self.assertEqual(judged(t, *[0] * 3000), [-2, 1, 0, 0])
+        self.assertEqual(made(1, t + [10] * (8300 - len(t))), [-1])
+
+
+if __name__ == "__main__":
+    unittest.main()
