@@ -1,6 +1,9 @@
 """The calls: benches of judges who weigh the rules of one case."""
 
+from judgebench.bits import has
+from judgebench.cases import is_literal_of, least_clashes, what_follows
 from judgebench.reading import NO_FAULT, read_case
+from judgebench.strikes import ground_by
 from judgebench.weights import going_on, outweighed_by_any, some_outweighs_itself
 
 LONGEST_TEXT = 8192
@@ -18,6 +21,15 @@ JUDGE_IN_A_CIRCLE = 2
 WRONG_LENGTH = 1
 WRONG_ROW = 2
 MISSING = 3
+
+
+class Bench:
+    """A case, and judge by judge the weights, as rows; where refusal isn't 0, there is neither."""
+
+    def __init__(self, refusal, case, weighings):
+        self.refusal = refusal
+        self.case = case
+        self.weighings = weighings
 
 
 def make(judges, t, weights):
@@ -53,6 +65,61 @@ def judge(t, b):
     return [NO_BENCH] + fault
 
 
+def ground(t, b):
+    """Each judge's ground."""
+    bench = read_bench(t, b, lambda case, size: True)
+    if bench.refusal != 0:
+        return [bench.refusal]
+    return [0] + grounds_of(bench)
+
+
+def count(literal, t, b):
+    """For how many judges the literal stands, for how many it falls, for how many neither."""
+    bench = read_bench(t, b, lambda case, size: is_literal_of(case, literal))
+    if bench.refusal != 0:
+        return [bench.refusal]
+    standing = standing_of(bench)
+    stands = len([one for one in standing if has(one, literal)])
+    # A literal and its opposite differ in the last bit of their numbers.
+    falls = len([one for one in standing if has(one, literal ^ 1)])
+    # A ground doesn't clash, so for no judge a literal both stands and falls.
+    return [0, stands, falls, len(standing) - stands - falls]
+
+
+def read_bench(t, b, fits):
+    """The bench of a text and a table, or the first refusal.
+
+    fits tells, of the case and of how many judges there are, whether all else that is handed in is there.
+    """
+    reading = read_case(t)
+    refusal = text_refusal(t, reading)
+    if refusal != 0:
+        return Bench(refusal, None, [])
+    rules = len(reading.case.rules)
+    if not fits(reading.case, judges_in(rules, b)):
+        return Bench(OUT_OF_RANGE, None, [])
+    if table_fault(rules, b) is not None:
+        return Bench(NO_BENCH, None, [])
+    weighings = [b[j * rules:(j + 1) * rules] for j in range(judges_in(rules, b))]
+    return Bench(0, reading.case, weighings)
+
+
+def grounds_of(bench):
+    """Judge by judge the ground."""
+    least = least_clashes(bench.case)
+    return [ground_by(least, rows) for rows in bench.weighings]
+
+
+def standing_of(bench):
+    """Judge by judge the set of literals that stand."""
+    return [what_follows(bench.case, chosen) for chosen in grounds_of(bench)]
+
+
+def judges_in(rules, b):
+    """How many judges there are, be b a bench's table or not."""
+    return 0 if rules == 0 else len(b) // rules
+
+
 def text_refusal(t, reading):
     """The refusal that the text brings about; 0: none."""
     if len(t) > LONGEST_TEXT:
@@ -77,7 +144,7 @@ def table_fault(rules, b):
         return [WRONG_LENGTH, 0, 0]
     for place, row in enumerate(b):
         i = place % rules
-        if row >> rules != 0 or (row >> i) & 1 == 1:
+        if row >> rules != 0 or has(row, i):
             return [WRONG_ROW, place // rules, i]
     for place, row in enumerate(b):
         i = place % rules

@@ -3,6 +3,7 @@
 A set of rules is a number, bit i for rule i; a set of literals is one too, by the literals' numbers.
 """
 
+from judgebench.bits import has, within
 from judgebench.words import atom_of, is_opposite
 
 
@@ -49,12 +50,16 @@ def literal_set(numbers, literals):
     return found
 
 
+def is_literal_of(case, number):
+    return number < 2 * len(case.atoms)
+
+
 def what_follows(case, chosen):
     """The set of literals that follow from the chosen set of rules."""
     found = 0
     clauses = list(case.laws)
     for i, rule in enumerate(case.rules):
-        if (chosen >> i) & 1 == 1:
+        if has(chosen, i):
             found |= rule[0]
             clauses.append((rule[1], rule[2]))
     before = -1
@@ -69,3 +74,13 @@ def what_follows(case, chosen):
 def clashes(case, chosen):
     found = what_follows(case, chosen)
     return any([(found >> (2 * number)) & 3 == 3 for number in range(len(case.atoms))])
+
+
+def least_clashes(case):
+    """The clashing sets of rules within which no other clashing set is, rising."""
+    found = []
+    # Numbers rise, so all that is within a set is looked at ahead of it.
+    for chosen in range(1 << len(case.rules)):
+        if not any([within(one, chosen) for one in found]) and clashes(case, chosen):
+            found.append(chosen)
+    return found

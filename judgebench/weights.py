@@ -1,11 +1,13 @@
 """Weights over rules: a list that has, for each rule, the set of rules that it outweighs, as a number."""
 
+from judgebench.bits import has
+
 
 def outweighed_by_any(rows, chosen):
     """The set of all that some rule of the chosen set outweighs."""
     found = 0
     for i, row in enumerate(rows):
-        if (chosen >> i) & 1 == 1:
+        if has(chosen, i):
             found |= row
     return found
 
@@ -17,10 +19,10 @@ def going_on(rows):
     # Once rule k is done, every way that goes on through rules 0 to k alone is told.
     for k in range(size):
         for i in range(size):
-            if (closed[i] >> k) & 1 == 1:
+            if has(closed[i], k):
                 closed[i] |= closed[k]
     return closed
 
 
 def some_outweighs_itself(rows):
-    return any([(row >> i) & 1 == 1 for i, row in enumerate(rows)])
+    return any([has(row, i) for i, row in enumerate(rows)])

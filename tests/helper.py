@@ -1,6 +1,8 @@
 """What the tests share: texts written as rows, and calls that watch what is handed in."""
 
-from judgebench.benches import judge, make
+import re
+
+from judgebench.benches import count, ground, judge, make
 
 
 class Watched(list):
@@ -21,6 +23,18 @@ def lines(*rows):
 def rules(*names):
     """Lines of rules that are all different, without bodies."""
     return ["rule %s: => p-%s" % (name, name) for name in names]
+
+
+def number(literal, t):
+    """The number of a literal of the case."""
+    atoms = set()
+    for row in "".join(chr(byte) for byte in t).split("\n")[:-1]:
+        word, name, rest = row.split(" ", 2)
+        if word != "weigh":
+            atoms |= set(re.findall("[a-z][a-z0-9-]*", rest))
+        if word == "rule":
+            atoms.add(name[:-1])
+    return 2 * sorted(atoms).index(literal.lstrip("~")) + literal.count("~")
 
 
 def call(function, *values):
@@ -47,3 +61,12 @@ def made(judges, t, *weights):
 
 def judged(t, *b):
     return call(judge, t, list(b))
+
+
+def grounds(t, *b):
+    return call(ground, t, list(b))
+
+
+def counted(literal, t, *b):
+    """count's answer; the literal is written out."""
+    return call(count, number(literal, t), t, list(b))

@@ -6,11 +6,31 @@ import subprocess
 import sys
 import unittest
 
-from helper import lines, made, judged
+from helper import call, lines, made, judged
 from judgebench import benches
 
 ROOT = pathlib.Path(__file__).resolve().parent.parent
-CALLS = {"make": ["judges", "t", "weights"], "judge": ["t", "b"]}
+CALLS = {
+    "make": ["judges", "t", "weights"],
+    "judge": ["t", "b"],
+    "ground": ["t", "b"],
+    "count": ["literal", "t", "b"],
+}
+# Atoms a, b, p; two judges, of whom the first has a outweigh b.
+PAIR = lines("rule a: => p", "rule b: => ~p")
+TABLE = [2, 0, 0, 0]
+# Each call with values that it answers, and the answer.
+SAMPLES = [
+    ("make", {"judges": 2, "t": PAIR, "weights": [0, 0, 1]}, [0, 2, 0, 0, 0]),
+    ("make", {"judges": 2, "t": PAIR, "weights": [0, 0, 0]}, [-2, 2, 0]),
+    ("judge", {"t": PAIR, "b": TABLE}, [0]),
+    ("judge", {"t": PAIR, "b": [1, 0]}, [-2, 2, 0, 0]),
+    ("ground", {"t": PAIR, "b": TABLE}, [0, 1, 0]),
+    ("ground", {"t": PAIR, "b": [1, 0]}, [-2]),
+    ("count", {"literal": 4, "t": PAIR, "b": TABLE}, [0, 1, 0, 1]),
+    ("count", {"literal": 6, "t": PAIR, "b": TABLE}, [-1]),
+    ("count", {"literal": 4, "t": PAIR, "b": []}, [-2]),
+]
 
 
 class Interface(unittest.TestCase):
@@ -20,22 +40,28 @@ class Interface(unittest.TestCase):
             self.assertEqual(list(parameters), arguments)
             self.assertTrue(all(one.default is one.empty for one in parameters.values()))
 
+    def test_every_call_has_samples(self):
+        self.assertEqual({name for name, values, answer in SAMPLES}, set(CALLS))
+
     def test_by_keyword(self):
-        t = lines("rule a: => p")
-        self.assertEqual(benches.make(judges=1, t=t, weights=[]), [0, 0])
-        self.assertEqual(benches.judge(t=t, b=[0]), [0])
+        for name, values, answer in SAMPLES:
+            self.assertEqual(getattr(benches, name)(**values), answer, name)
+
+    def test_by_place(self):
+        for name, values, answer in SAMPLES:
+            self.assertEqual(call(getattr(benches, name), *[values[one] for one in CALLS[name]]), answer, name)
 
     def test_nothing_is_printed_or_imported(self):
         program = (
             "import sys\n"
             "before = set(sys.modules)\n"
-            "from judgebench.benches import make, judge\n"
-            "t = list(b'rule a: => p' + bytes([10]))\n"
-            "make(1, t, [0, 0, 0]), judge(t, [0]), make(1, [1], []), judge([1], [])\n"
+            "from judgebench import benches\n"
+            "for name, values, answer in %r:\n"
+            "    getattr(benches, name)(**values)\n"
             "more = [name for name in set(sys.modules) - before if name.split('.')[0] != 'judgebench']\n"
             "sys.exit(1 if more else 0)\n"
         )
-        run = subprocess.run([sys.executable, "-c", program], cwd=ROOT, capture_output=True)
+        run = subprocess.run([sys.executable, "-c", program % (SAMPLES,)], cwd=ROOT, capture_output=True)
         self.assertEqual((run.returncode, run.stdout, run.stderr), (0, b"", b""))
 
     def test_nothing_is_kept(self):
@@ -47,6 +73,14 @@ class Interface(unittest.TestCase):
         benches.judge(good, [0, 1]).clear()
         again = [judged(wrong, 0), made(1, wrong), judged(good, 0, 1), made(2, good, (0, 1, 0))]
         self.assertEqual(again, first[::-1])
+
+    def test_nothing_is_kept_between_calls(self):
+        for turn in (SAMPLES, SAMPLES[::-1], SAMPLES[::2] + SAMPLES[1::2]):
+            for name, values, answer in turn:
+                given = getattr(benches, name)(**values)
+                self.assertEqual(given, answer, name)
+                # Its owner changes the answer.
+                given.append(7)
 
     def test_the_longest_lists(self):
         t = lines("rule a: => p", "rule b: => q")
