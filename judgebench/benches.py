@@ -1,6 +1,6 @@
 """The calls: benches of judges who weigh the rules of one case."""
 
-from judgebench.bits import has
+from judgebench.bits import has, in_many, members, within
 from judgebench.cases import is_literal_of, least_clashes, what_follows
 from judgebench.reading import NO_FAULT, read_case
 from judgebench.strikes import ground_by
@@ -22,13 +22,19 @@ WRONG_LENGTH = 1
 WRONG_ROW = 2
 MISSING = 3
 
+# How many judges held is asked of.
+SOME = 0
+MOST = 1
+ALL = 2
+
 
 class Bench:
-    """A case, and judge by judge the weights, as rows; where refusal isn't 0, there is neither."""
+    """A case with its least clashes, and judge by judge the weights, as rows; where refusal isn't 0, none of these."""
 
-    def __init__(self, refusal, case, weighings):
+    def __init__(self, refusal, case, least, weighings):
         self.refusal = refusal
         self.case = case
+        self.least = least
         self.weighings = weighings
 
 
@@ -78,12 +84,36 @@ def count(literal, t, b):
     bench = read_bench(t, b, lambda case, size: is_literal_of(case, literal))
     if bench.refusal != 0:
         return [bench.refusal]
-    standing = standing_of(bench)
+    standing = standing_by(bench.case, grounds_of(bench))
     stands = len([one for one in standing if has(one, literal)])
     # A literal and its opposite differ in the last bit of their numbers.
     falls = len([one for one in standing if has(one, literal ^ 1)])
     # A ground doesn't clash, so for no judge a literal both stands and falls.
     return [0, stands, falls, len(standing) - stands - falls]
+
+
+def held(how, t, b):
+    """The set of rules, then the literals, rising, that some judge holds, most, or all."""
+    bench = read_bench(t, b, lambda case, size: how <= ALL)
+    if bench.refusal != 0:
+        return [bench.refusal]
+    enough = enough_judges(how, len(bench.weighings))
+    grounds = grounds_of(bench)
+    literals = in_many(standing_by(bench.case, grounds), enough)
+    return [0, in_many(grounds, enough)] + members(literals)
+
+
+def clash(t, b):
+    """0: the rules that most hold don't clash; else 1 and, of their parts that clash, the first of the least."""
+    bench = read_bench(t, b, lambda case, size: True)
+    if bench.refusal != 0:
+        return [bench.refusal]
+    most = in_many(grounds_of(bench), enough_judges(MOST, len(bench.weighings)))
+    # A clashing part with the fewest rules has no other one within, so the least clashes alone are looked at.
+    parts = [one for one in bench.least if within(one, most)]
+    if parts == []:
+        return [0, 0]
+    return [0, 1, min(parts, key=lambda one: (len(members(one)), one))]
 
 
 def read_bench(t, b, fits):
@@ -94,25 +124,33 @@ def read_bench(t, b, fits):
     reading = read_case(t)
     refusal = text_refusal(t, reading)
     if refusal != 0:
-        return Bench(refusal, None, [])
+        return Bench(refusal, None, [], [])
     rules = len(reading.case.rules)
     if not fits(reading.case, judges_in(rules, b)):
-        return Bench(OUT_OF_RANGE, None, [])
+        return Bench(OUT_OF_RANGE, None, [], [])
     if table_fault(rules, b) is not None:
-        return Bench(NO_BENCH, None, [])
+        return Bench(NO_BENCH, None, [], [])
     weighings = [b[j * rules:(j + 1) * rules] for j in range(judges_in(rules, b))]
-    return Bench(0, reading.case, weighings)
+    return Bench(0, reading.case, least_clashes(reading.case), weighings)
 
 
 def grounds_of(bench):
     """Judge by judge the ground."""
-    least = least_clashes(bench.case)
-    return [ground_by(least, rows) for rows in bench.weighings]
+    return [ground_by(bench.least, rows) for rows in bench.weighings]
 
 
-def standing_of(bench):
-    """Judge by judge the set of literals that stand."""
-    return [what_follows(bench.case, chosen) for chosen in grounds_of(bench)]
+def standing_by(case, grounds):
+    """Ground by ground the set of literals that stand."""
+    return [what_follows(case, chosen) for chosen in grounds]
+
+
+def enough_judges(how, judges):
+    """How many of so many judges must hold something for some judge, most or all to hold it."""
+    if how == SOME:
+        return 1
+    if how == MOST:
+        return judges // 2 + 1
+    return judges
 
 
 def judges_in(rules, b):

@@ -2,7 +2,7 @@
 
 import re
 
-from judgebench.benches import count, ground, judge, make
+from judgebench.benches import clash, count, ground, held, judge, make
 
 
 class Watched(list):
@@ -70,3 +70,17 @@ def grounds(t, *b):
 def counted(literal, t, *b):
     """count's answer; the literal is written out."""
     return call(count, number(literal, t), t, list(b))
+
+
+def holding(how, t, *b):
+    """held's answer, the literals as their numbers."""
+    return call(held, how, t, list(b))
+
+
+def clashing(t, *b):
+    return call(clash, t, list(b))
+
+
+def numbers(t, *literals):
+    """The numbers of literals of the case, rising."""
+    return sorted(number(literal, t) for literal in literals)

@@ -29,6 +29,7 @@ class Model:
         told = [body + [head] for body, head in [*self.laws.values(), *self.rules.values()]]
         self.atoms = sorted({literal.lstrip("~") for row in told for literal in row} | set(self.names))
         self.literals = [sign + atom for atom in self.atoms for sign in ("", "~")]
+        self.grounds = {}
         self.sets = subsets(self.names)
         self.follows = {chosen: self.follow(chosen) for chosen in self.sets}
         self.clashing = {chosen for chosen in self.sets if any(opposite(one) in self.follows[chosen] for one in
@@ -51,6 +52,12 @@ class Model:
         )
 
     def ground(self, over):
+        over = frozenset(over)
+        if over not in self.grounds:
+            self.grounds[over] = self.find_ground(over)
+        return self.grounds[over]
+
+    def find_ground(self, over):
         struck = {chosen: {rule for rule in self.names if self.strikes(over, chosen, rule)} for chosen in self.sets}
 
         def defended(chosen):
@@ -83,6 +90,27 @@ def model_count(model, judges, literal):
     return answer
 
 
+def hold_it(how, judges, holds):
+    """Whether some judge, most or all hold it; holds is how many do."""
+    return holds > 0 if how == 0 else holds > judges - holds if how == 1 else holds == judges
+
+
+def model_held(model, judges, how):
+    grounds = [model.ground(over) for over in judges]
+    rules = [name for name in model.names if hold_it(how, len(judges), sum(name in one for one in grounds))]
+    held = [model.follows[one] for one in grounds]
+    literals = [k for k, word in enumerate(model.literals) if
+                hold_it(how, len(judges), sum(word in one for one in held))]
+    return [0, model.number(rules)] + literals
+
+
+def model_clash(model, judges):
+    grounds = [model.ground(over) for over in judges]
+    most = {name for name in model.names if hold_it(1, len(judges), sum(name in one for one in grounds))}
+    parts = [(len(some), model.number(some)) for some in model.clashing if some <= most]
+    return [0, 1, min(parts)[1]] if parts else [0, 0]
+
+
 def some_case(source):
     """A text without a fault and with one to five rules."""
     names = source.sample(["a", "b", "c", "d", "e", "f", "g", "h"], source.choice([1, 2, 3, 3, 4, 4, 4, 5]))
@@ -104,30 +132,44 @@ def some_case(source):
     return text
 
 
-def some_weights(source, names):
+def some_weights(source, names, shares):
     order = source.sample(names, len(names))
-    much = source.choice([0, 0.2, 0.5, 1])
+    much = source.choice(shares)
     return go_on((x, y) for x, y in itertools.combinations(order, 2) if source.random() < much)
 
 
-def some_bench(source):
+def clashing_case(source):
+    """A text in which some sets of three and more rules clash, so that what most hold clashes now and then."""
+    names = list("abcde")[:source.choice([3, 4, 5])]
+    sets = [source.sample(names, source.choice([3, 3, len(names)])) for k in range(source.choice([1, 2, 3]))]
+    text = "".join("rule %s: => p-%s\n" % (name, name) for name in names)
+    for k, some in enumerate(sets):
+        row = "law l%d: %s -> ~%s\n" % (k, ", ".join(some[1:]), some[0])
+        text += row if model_fault(text + row)[0] is None else ""
+    return text
+
+
+def some_bench(source, draw):
     """A case's text, its model, each judge's weights, and the table."""
-    text = some_case(source)
+    text = draw(source)
     model = Model(text)
-    judges = [some_weights(source, model.names) for j in range(source.choice([1, 2, 2, 3, 3, 4, 8]))]
+    # Judges who weigh much differ much in what they hold.
+    shares = source.choice([[0, 0.2, 0.5, 1], [0.5, 1, 1, 1]])
+    judges = [some_weights(source, model.names, shares) for j in range(source.choice([1, 2, 3, 3, 4, 5, 8]))]
     table = [model.number(y for y in model.names if (x, y) in over) for over in judges for x in model.names]
     return [ord(sign) for sign in text], model, judges, table
 
 
 class Compare(unittest.TestCase):
-    def benches(self, seed, turns):
+    def both(self, seed, plain, clashing):
+        """So many benches of the one sort and of the other."""
         source = random.Random(seed)
-        for turn in range(turns):
-            yield some_bench(source)
+        for draw in [some_case] * plain + [clashing_case] * clashing:
+            yield some_bench(source, draw)
 
     def test_ground(self):
         sizes, least = set(), set()
-        for t, model, judges, b in self.benches(11, 250):
+        for t, model, judges, b in self.both(11, 200, 50):
             self.assertEqual(call(benches.ground, t, b), model_ground(model, judges), (t, b))
             sizes |= {len(model.ground(over)) for over in judges}
             least |= {len(some) for some in model.clashing if not any(other < some for other in model.clashing)}
@@ -137,12 +179,28 @@ class Compare(unittest.TestCase):
 
     def test_count(self):
         told = set()
-        for t, model, judges, b in self.benches(12, 100):
+        for t, model, judges, b in self.both(12, 70, 30):
             for literal in range(len(model.literals) + 2):
                 answer = call(benches.count, literal, t, b)
                 self.assertEqual(answer, model_count(model, judges, literal), (literal, t, b))
                 told.add(tuple(number > 0 for number in answer))
         self.assertEqual(len(told), 8)
+
+    def test_held(self):
+        differ = 0
+        for t, model, judges, b in self.both(13, 100, 100):
+            answers = [call(benches.held, how, t, b) for how in range(3)]
+            self.assertEqual(answers, [model_held(model, judges, how) for how in range(3)], (t, b))
+            differ += len({tuple(answer) for answer in answers}) == 3
+        self.assertGreater(differ, 20)
+
+    def test_clash(self):
+        told = set()
+        for t, model, judges, b in self.both(14, 50, 250):
+            answer = call(benches.clash, t, b)
+            self.assertEqual(answer, model_clash(model, judges), (t, b))
+            told.add(tuple(answer))
+        self.assertGreater(len(told), 3)
 
 
 if __name__ == "__main__":

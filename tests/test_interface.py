@@ -15,6 +15,8 @@ CALLS = {
     "judge": ["t", "b"],
     "ground": ["t", "b"],
     "count": ["literal", "t", "b"],
+    "held": ["how", "t", "b"],
+    "clash": ["t", "b"],
 }
 # Atoms a, b, p; two judges, of whom the first has a outweigh b.
 PAIR = lines("rule a: => p", "rule b: => ~p")
@@ -30,6 +32,11 @@ SAMPLES = [
     ("count", {"literal": 4, "t": PAIR, "b": TABLE}, [0, 1, 0, 1]),
     ("count", {"literal": 6, "t": PAIR, "b": TABLE}, [-1]),
     ("count", {"literal": 4, "t": PAIR, "b": []}, [-2]),
+    ("held", {"how": 0, "t": PAIR, "b": TABLE}, [0, 1, 0, 4]),
+    ("held", {"how": 1, "t": PAIR, "b": TABLE}, [0, 0]),
+    ("held", {"how": 3, "t": PAIR, "b": TABLE}, [-1]),
+    ("clash", {"t": PAIR, "b": TABLE}, [0, 0]),
+    ("clash", {"t": PAIR, "b": []}, [-2]),
 ]
 
 

@@ -11,10 +11,10 @@ TWO_JUDGES = [6, 4, 0, 0, 1, 3]
 LAWS_ALONE = lines("law a: -> p", "law b: p -> ~q")
 
 # What stands ahead of text and table: values that are there with the case and two judges, and values that aren't.
-GOOD = {"ground": [()], "count": [(0,), (11,)]}
-WRONG = {"count": [(12,), (13,), (4294967295,)]}
+GOOD = {"ground": [()], "count": [(0,), (11,)], "held": [(0,), (1,), (2,)], "clash": [()]}
+WRONG = {"count": [(12,), (13,), (4294967295,)], "held": [(3,), (4,), (4294967295,)]}
 # What isn't there whatever the case and the table.
-NEVER = {"count": [(4294967295,)]}
+NEVER = {"count": [(4294967295,)], "held": [(3,)]}
 
 NO_BENCHES = (
     # There aren't so many numbers for each of 1 to 8 judges.
@@ -85,7 +85,7 @@ class Refusals(unittest.TestCase):
     def test_no_bench_of_fewer_judges(self):
         for b in NO_BENCHES_FOR_TWO:
             self.assertEqual(call(benches.judge, ABC, list(b))[0], -2)
-            self.refused({name: GOOD[name] for name in ("ground", "count")}, -2, ABC, b)
+            self.refused({name: GOOD[name] for name in ("ground", "count", "held", "clash")}, -2, ABC, b)
 
     def test_a_case_without_rules(self):
         for b in ([], [0], [0] * 6):
@@ -95,6 +95,11 @@ class Refusals(unittest.TestCase):
             self.assertEqual(call(benches.count, 3, LAWS_ALONE, b), [-2])
             self.assertEqual(call(benches.count, 4, LAWS_ALONE, b), [-1])
             self.assertEqual(call(benches.count, 0, [], b), [-1])
+            for t in (LAWS_ALONE, []):
+                for how in (0, 1, 2):
+                    self.assertEqual(call(benches.held, how, t, b), [-2])
+                self.assertEqual(call(benches.held, 3, t, b), [-1])
+                self.assertEqual(call(benches.clash, t, b), [-2])
 
 
 if __name__ == "__main__":
