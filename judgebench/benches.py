@@ -4,13 +4,14 @@ from judgebench.bits import has, in_many, members, within
 from judgebench.cases import is_literal_of, least_clashes, what_follows
 from judgebench.reading import NO_FAULT, read_case
 from judgebench.strikes import ground_by
-from judgebench.weights import going_on, outweighed_by_any, some_outweighs_itself
+from judgebench.weights import going_on, in_common, outweighed_by_any, some_outweighs_itself
 
 LONGEST_TEXT = 8192
 MOST_JUDGES = 8
 
 OUT_OF_RANGE = -1
 NO_BENCH = -2
+NOTHING_FOUND = -3
 NO_CASE = -6
 
 # What make tells with NO_BENCH.
@@ -114,6 +115,27 @@ def clash(t, b):
     if parts == []:
         return [0, 0]
     return [0, 1, min(parts, key=lambda one: (len(members(one)), one))]
+
+
+def common(judges, t, b):
+    """The weights that the judges of the set have in common, for each rule a set; then the ground by these."""
+    bench = read_bench(t, b, lambda case, size: judges != 0 and judges >> size == 0)
+    if bench.refusal != 0:
+        return [bench.refusal]
+    rows = in_common([bench.weighings[j] for j in members(judges)])
+    return [0] + rows + [ground_by(bench.least, rows)]
+
+
+def part(x, y, t, b):
+    """The first literal over which judges x and y part."""
+    bench = read_bench(t, b, lambda case, size: x < size and y < size)
+    if bench.refusal != 0:
+        return [bench.refusal]
+    standing = standing_by(bench.case, grounds_of(bench))
+    apart = members(standing[x] ^ standing[y])
+    if apart == []:
+        return [NOTHING_FOUND]
+    return [0, apart[0]]
 
 
 def read_bench(t, b, fits):

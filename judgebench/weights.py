@@ -26,3 +26,11 @@ def going_on(rows):
 
 def some_outweighs_itself(rows):
     return any([has(row, i) for i, row in enumerate(rows)])
+
+
+def in_common(weighings):
+    """The weights that all of these have; there is one at least."""
+    rows = list(weighings[0])
+    for other in weighings[1:]:
+        rows = [row & more for row, more in zip(rows, other)]
+    return rows

@@ -2,7 +2,7 @@
 
 import re
 
-from judgebench.benches import clash, count, ground, held, judge, make
+from judgebench.benches import clash, common, count, ground, held, judge, make, part
 
 
 class Watched(list):
@@ -84,3 +84,12 @@ def clashing(t, *b):
 def numbers(t, *literals):
     """The numbers of literals of the case, rising."""
     return sorted(number(literal, t) for literal in literals)
+
+
+def shared(judges, t, *b):
+    """common's answer."""
+    return call(common, judges, t, list(b))
+
+
+def parted(x, y, t, *b):
+    return call(part, x, y, t, list(b))

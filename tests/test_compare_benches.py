@@ -1,4 +1,4 @@
-"""The calls on benches beside a second writing of the document, by sets and by its very words, over many small cases."""
+"""The calls on benches beside a second writing of the document, by its very words, over many small cases."""
 
 import itertools
 import random
@@ -111,6 +111,28 @@ def model_clash(model, judges):
     return [0, 1, min(parts)[1]] if parts else [0, 0]
 
 
+def members(chosen):
+    return [k for k in range(40) if chosen >> k & 1]
+
+
+def model_common(model, judges, chosen):
+    if not chosen or any(j >= len(judges) for j in members(chosen)):
+        return [-1]
+    over = set.intersection(*[judges[j] for j in members(chosen)])
+    rows = [model.number(y for y in model.names if (x, y) in over) for x in model.names]
+    return [0] + rows + [model.number(model.ground(over))]
+
+
+def model_part(model, judges, x, y):
+    if x >= len(judges) or y >= len(judges):
+        return [-1]
+    first, second = model.follows[model.ground(judges[x])], model.follows[model.ground(judges[y])]
+    for k, word in enumerate(model.literals):
+        if (word in first) != (word in second):
+            return [0, k]
+    return [-3]
+
+
 def some_case(source):
     """A text without a fault and with one to five rules."""
     names = source.sample(["a", "b", "c", "d", "e", "f", "g", "h"], source.choice([1, 2, 3, 3, 4, 4, 4, 5]))
@@ -201,6 +223,29 @@ class Compare(unittest.TestCase):
             self.assertEqual(answer, model_clash(model, judges), (t, b))
             told.add(tuple(answer))
         self.assertGreater(len(told), 3)
+
+    def test_common(self):
+        fewer = 0
+        for t, model, judges, b in self.both(15, 50, 50):
+            for chosen in range(min(2 << len(judges), 40)):
+                answer = call(benches.common, chosen, t, b)
+                self.assertEqual(answer, model_common(model, judges, chosen), (chosen, t, b))
+                fewer += answer[0] == 0 and answer[1:] not in [[*rows, one] for rows, one in self.own(t, model, b)]
+        self.assertGreater(fewer, 100)
+
+    def own(self, t, model, b):
+        """Judge by judge the rows and the ground."""
+        size = len(model.names)
+        return [(b[j * size:(j + 1) * size], one) for j, one in enumerate(benches.ground(t, b)[1:])]
+
+    def test_part(self):
+        told = set()
+        for t, model, judges, b in self.both(16, 50, 50):
+            for x, y in itertools.product(range(len(judges) + 1), repeat=2):
+                answer = call(benches.part, x, y, t, b)
+                self.assertEqual(answer, model_part(model, judges, x, y), (x, y, t, b))
+                told.add(tuple(answer))
+        self.assertLessEqual({(-1,), (-3,), (0, 0), (0, 2), (0, 4)}, told)
 
 
 if __name__ == "__main__":

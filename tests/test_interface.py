@@ -17,6 +17,8 @@ CALLS = {
     "count": ["literal", "t", "b"],
     "held": ["how", "t", "b"],
     "clash": ["t", "b"],
+    "common": ["judges", "t", "b"],
+    "part": ["x", "y", "t", "b"],
 }
 # Atoms a, b, p; two judges, of whom the first has a outweigh b.
 PAIR = lines("rule a: => p", "rule b: => ~p")
@@ -37,6 +39,12 @@ SAMPLES = [
     ("held", {"how": 3, "t": PAIR, "b": TABLE}, [-1]),
     ("clash", {"t": PAIR, "b": TABLE}, [0, 0]),
     ("clash", {"t": PAIR, "b": []}, [-2]),
+    ("common", {"judges": 1, "t": PAIR, "b": TABLE}, [0, 2, 0, 1]),
+    ("common", {"judges": 3, "t": PAIR, "b": TABLE}, [0, 0, 0, 0]),
+    ("common", {"judges": 4, "t": PAIR, "b": TABLE}, [-1]),
+    ("part", {"x": 0, "y": 1, "t": PAIR, "b": TABLE}, [0, 0]),
+    ("part", {"x": 1, "y": 1, "t": PAIR, "b": TABLE}, [-3]),
+    ("part", {"x": 0, "y": 2, "t": PAIR, "b": TABLE}, [-1]),
 ]
 
 

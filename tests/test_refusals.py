@@ -11,10 +11,22 @@ TWO_JUDGES = [6, 4, 0, 0, 1, 3]
 LAWS_ALONE = lines("law a: -> p", "law b: p -> ~q")
 
 # What stands ahead of text and table: values that are there with the case and two judges, and values that aren't.
-GOOD = {"ground": [()], "count": [(0,), (11,)], "held": [(0,), (1,), (2,)], "clash": [()]}
-WRONG = {"count": [(12,), (13,), (4294967295,)], "held": [(3,), (4,), (4294967295,)]}
+GOOD = {
+    "ground": [()],
+    "count": [(0,), (11,)],
+    "held": [(0,), (1,), (2,)],
+    "clash": [()],
+    "common": [(1,), (2,), (3,)],
+    "part": [(0, 0), (0, 1), (1, 0), (1, 1)],
+}
+WRONG = {
+    "count": [(12,), (13,), (4294967295,)],
+    "held": [(3,), (4,), (4294967295,)],
+    "common": [(0,), (4,), (5,), (7,), (256,), (4294967295,)],
+    "part": [(0, 2), (2, 0), (2, 2), (1, 8), (8, 1), (0, 4294967295), (4294967295, 0)],
+}
 # What isn't there whatever the case and the table.
-NEVER = {"count": [(4294967295,)], "held": [(3,)]}
+NEVER = {"count": [(4294967295,)], "held": [(3,)], "common": [(0,)], "part": [(0, 4294967295), (4294967295, 0)]}
 
 NO_BENCHES = (
     # There aren't so many numbers for each of 1 to 8 judges.
@@ -87,6 +99,23 @@ class Refusals(unittest.TestCase):
             self.assertEqual(call(benches.judge, ABC, list(b))[0], -2)
             self.refused({name: GOOD[name] for name in ("ground", "count", "held", "clash")}, -2, ABC, b)
 
+    def test_how_many_judges_are_there_is_rounded_down(self):
+        for length, judges in ((0, 0), (1, 0), (2, 0), (4, 1), (5, 1), (7, 2), (8, 2), (23, 7), (25, 8), (26, 8),
+                               (27, 9), (28, 9), (30, 10), (3000, 1000)):
+            b = [0] * length
+            if judges > 0:
+                last = min(judges, 32) - 1
+                self.refused({"common": [(1,), (1 << last,), ((1 << last) | 1,)]}, -2, ABC, b)
+                self.refused({"part": [(0, 0), (judges - 1, 0), (0, judges - 1)]}, -2, ABC, b)
+            if judges < 32:
+                self.refused({"common": [(1 << judges,), (1 << judges | 1,), (4294967295,)]}, -1, ABC, b)
+            self.refused({"part": [(judges, 0), (0, judges), (judges, judges), (judges + 1, 0)]}, -1, ABC, b)
+
+    def test_a_judge_that_there_is_not_ahead_of_a_wrong_row(self):
+        for b in ([1, 0, 0], [8, 0, 0], [2, 4, 0], [2, 1, 0]):
+            self.refused({"common": [(1,)], "part": [(0, 0)]}, -2, ABC, b)
+            self.refused({"common": [(0,), (2,), (3,)], "part": [(0, 1), (1, 0), (1, 1)]}, -1, ABC, b)
+
     def test_a_case_without_rules(self):
         for b in ([], [0], [0] * 6):
             # Atoms p, q.
@@ -100,6 +129,11 @@ class Refusals(unittest.TestCase):
                     self.assertEqual(call(benches.held, how, t, b), [-2])
                 self.assertEqual(call(benches.held, 3, t, b), [-1])
                 self.assertEqual(call(benches.clash, t, b), [-2])
+                # There is no judge.
+                for judges in (0, 1, 4294967295):
+                    self.assertEqual(call(benches.common, judges, t, b), [-1])
+                for x, y in ((0, 0), (0, 1), (1, 0)):
+                    self.assertEqual(call(benches.part, x, y, t, b), [-1])
 
 
 if __name__ == "__main__":
