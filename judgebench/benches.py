@@ -138,6 +138,18 @@ def part(x, y, t, b):
     return [0, apart[0]]
 
 
+def few(literal, t, b):
+    """Of the sets of judges by whose weights in common the literal stands the first of the least."""
+    bench = read_bench(t, b, lambda case, size: is_literal_of(case, literal))
+    if bench.refusal != 0:
+        return [bench.refusal]
+    # What stands by weights in common stands for each of these judges, so a set of one is always among the least.
+    for j, stands in enumerate(standing_by(bench.case, grounds_of(bench))):
+        if has(stands, literal):
+            return [0, 1 << j]
+    return [NOTHING_FOUND]
+
+
 def read_bench(t, b, fits):
     """The bench of a text and a table, or the first refusal.
 

@@ -2,7 +2,7 @@
 
 import re
 
-from judgebench.benches import clash, common, count, ground, held, judge, make, part
+from judgebench.benches import clash, common, count, few, ground, held, judge, make, part
 
 
 class Watched(list):
@@ -93,3 +93,8 @@ def shared(judges, t, *b):
 
 def parted(x, y, t, *b):
     return call(part, x, y, t, list(b))
+
+
+def fewest(literal, t, *b):
+    """few's answer; the literal is written out."""
+    return call(few, number(literal, t), t, list(b))

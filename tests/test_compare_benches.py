@@ -133,6 +133,18 @@ def model_part(model, judges, x, y):
     return [-3]
 
 
+def model_few(model, judges, literal):
+    """All sets of judges are gone through, but for the empty one, which has no weights in common."""
+    if literal >= len(model.literals):
+        return [-1]
+    sets = []
+    for chosen in range(1, 1 << len(judges)):
+        over = set.intersection(*[judges[j] for j in members(chosen)])
+        if model.literals[literal] in model.follows[model.ground(over)]:
+            sets.append((len(members(chosen)), chosen))
+    return [0, min(sets)[1]] if sets else [-3]
+
+
 def some_case(source):
     """A text without a fault and with one to five rules."""
     names = source.sample(["a", "b", "c", "d", "e", "f", "g", "h"], source.choice([1, 2, 3, 3, 4, 4, 4, 5]))
@@ -246,6 +258,15 @@ class Compare(unittest.TestCase):
                 self.assertEqual(answer, model_part(model, judges, x, y), (x, y, t, b))
                 told.add(tuple(answer))
         self.assertLessEqual({(-1,), (-3,), (0, 0), (0, 2), (0, 4)}, told)
+
+    def test_few(self):
+        told = set()
+        for t, model, judges, b in self.both(17, 40, 40):
+            for literal in range(len(model.literals) + 1):
+                answer = call(benches.few, literal, t, b)
+                self.assertEqual(answer, model_few(model, judges, literal), (literal, t, b))
+                told.add(tuple(answer))
+        self.assertLessEqual({(-1,), (-3,), (0, 1), (0, 2), (0, 4)}, told)
 
 
 if __name__ == "__main__":

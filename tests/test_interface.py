@@ -19,6 +19,7 @@ CALLS = {
     "clash": ["t", "b"],
     "common": ["judges", "t", "b"],
     "part": ["x", "y", "t", "b"],
+    "few": ["literal", "t", "b"],
 }
 # Atoms a, b, p; two judges, of whom the first has a outweigh b.
 PAIR = lines("rule a: => p", "rule b: => ~p")
@@ -45,6 +46,9 @@ SAMPLES = [
     ("part", {"x": 0, "y": 1, "t": PAIR, "b": TABLE}, [0, 0]),
     ("part", {"x": 1, "y": 1, "t": PAIR, "b": TABLE}, [-3]),
     ("part", {"x": 0, "y": 2, "t": PAIR, "b": TABLE}, [-1]),
+    ("few", {"literal": 0, "t": PAIR, "b": TABLE}, [0, 1]),
+    ("few", {"literal": 5, "t": PAIR, "b": TABLE}, [-3]),
+    ("few", {"literal": 6, "t": PAIR, "b": TABLE}, [-1]),
 ]
 
 

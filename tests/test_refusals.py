@@ -18,15 +18,23 @@ GOOD = {
     "clash": [()],
     "common": [(1,), (2,), (3,)],
     "part": [(0, 0), (0, 1), (1, 0), (1, 1)],
+    "few": [(0,), (11,)],
 }
 WRONG = {
     "count": [(12,), (13,), (4294967295,)],
     "held": [(3,), (4,), (4294967295,)],
     "common": [(0,), (4,), (5,), (7,), (256,), (4294967295,)],
     "part": [(0, 2), (2, 0), (2, 2), (1, 8), (8, 1), (0, 4294967295), (4294967295, 0)],
+    "few": [(12,), (13,), (4294967295,)],
 }
 # What isn't there whatever the case and the table.
-NEVER = {"count": [(4294967295,)], "held": [(3,)], "common": [(0,)], "part": [(0, 4294967295), (4294967295, 0)]}
+NEVER = {
+    "count": [(4294967295,)],
+    "held": [(3,)],
+    "common": [(0,)],
+    "part": [(0, 4294967295), (4294967295, 0)],
+    "few": [(4294967295,)],
+}
 
 NO_BENCHES = (
     # There aren't so many numbers for each of 1 to 8 judges.
@@ -97,7 +105,7 @@ class Refusals(unittest.TestCase):
     def test_no_bench_of_fewer_judges(self):
         for b in NO_BENCHES_FOR_TWO:
             self.assertEqual(call(benches.judge, ABC, list(b))[0], -2)
-            self.refused({name: GOOD[name] for name in ("ground", "count", "held", "clash")}, -2, ABC, b)
+            self.refused({name: GOOD[name] for name in ("ground", "count", "held", "clash", "few")}, -2, ABC, b)
 
     def test_how_many_judges_are_there_is_rounded_down(self):
         for length, judges in ((0, 0), (1, 0), (2, 0), (4, 1), (5, 1), (7, 2), (8, 2), (23, 7), (25, 8), (26, 8),
@@ -121,9 +129,10 @@ class Refusals(unittest.TestCase):
             # Atoms p, q.
             self.assertEqual(call(benches.ground, LAWS_ALONE, b), [-2])
             self.assertEqual(call(benches.ground, [], b), [-2])
-            self.assertEqual(call(benches.count, 3, LAWS_ALONE, b), [-2])
-            self.assertEqual(call(benches.count, 4, LAWS_ALONE, b), [-1])
-            self.assertEqual(call(benches.count, 0, [], b), [-1])
+            for function in (benches.count, benches.few):
+                self.assertEqual(call(function, 3, LAWS_ALONE, b), [-2])
+                self.assertEqual(call(function, 4, LAWS_ALONE, b), [-1])
+                self.assertEqual(call(function, 0, [], b), [-1])
             for t in (LAWS_ALONE, []):
                 for how in (0, 1, 2):
                     self.assertEqual(call(benches.held, how, t, b), [-2])
